@@ -1,0 +1,1 @@
+"""Parts out of a score: see partscores.desk for what may be asked."""
