@@ -41,6 +41,28 @@ class Player:
     def leave_out(self, start):
         self.notes = [note for note in self.notes if note.start != start]
 
+    def note_at(self, tick):
+        first = 0
+        behind = len(self.notes)
+        while first < behind:
+            middle = (first + behind) // 2
+            note = self.notes[middle]
+            if note.end <= tick:
+                first = middle + 1
+            elif note.start > tick:
+                behind = middle
+            else:
+                return note
+        return None
+
+    def may_move(self, k):
+        highs = [note.high for note in self.notes]
+        return len(highs) == 0 or (self.may_sound(min(highs) + k) and self.may_sound(max(highs) + k))
+
+    def move_notes(self, k):
+        for note in self.notes:
+            note.high += k
+
 
 class Score:
     def __init__(self):
@@ -99,3 +121,11 @@ class Score:
         if len(player.notes) == before:
             return NOT_THERE
         return len(player.notes)
+
+    def move_all(self, k):
+        # All are asked before one is moved, so that a refusal changes nothing.
+        if not all([player.may_move(k) for player in self.players]):
+            return OUT_OF_RANGE
+        for player in self.players:
+            player.move_notes(k)
+        return 0

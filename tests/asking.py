@@ -26,6 +26,26 @@ def part(i):
     return [5, i]
 
 
+def read(i, b):
+    return [6, i, len(b)] + list(b)
+
+
+def pages(i, most, rest):
+    return [7, i, most, rest]
+
+
+def sounds(t):
+    return [8, t]
+
+
+def move(k):
+    return [9, k]
+
+
+def parallels(i, j):
+    return [10, i, j]
+
+
 def joined(calls):
     return [number for call in calls for number in call]
 

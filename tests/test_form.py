@@ -66,6 +66,12 @@ def bound(tree):
     return names
 
 
+def at_the_top(tree):
+    """The names that a file itself defines at its top."""
+    names = [node.name for node in tree.body if isinstance(node, (ast.FunctionDef, ast.ClassDef))]
+    return names + [node.targets[0].id for node in tree.body if isinstance(node, ast.Assign)]
+
+
 class Form(unittest.TestCase):
     def test_only_plain_files(self):
         inside = [path.name for path in PACKAGE.iterdir() if path.name != "__pycache__"]
@@ -101,6 +107,47 @@ class Form(unittest.TestCase):
             if isinstance(node, ast.ImportFrom):
                 self.assertRegex(node.module, r"^partscores\.[a-z_]+$", name)
                 self.assertNotIn("*", [alias.name for alias in node.names], name)
+
+    def test_imports_are_from_the_file_that_defines_the_name_and_never_in_a_ring(self):
+        drawn = {name: set() for name, tree in trees()}
+        defined = {name: at_the_top(tree) for name, tree in trees()}
+        for name, node in nodes():
+            if isinstance(node, ast.ImportFrom):
+                source = node.module.split(".")[1] + ".py"
+                drawn[name].add(source)
+                self.assertEqual([one.name for one in node.names if one.name not in defined[source]], [], name)
+        while drawn:
+            free = [name for name, sources in drawn.items() if not sources & set(drawn)]
+            self.assertNotEqual(free, [], drawn)
+            drawn = {name: sources for name, sources in drawn.items() if name not in free}
+
+    def test_each_name_is_bound_once_at_the_top(self):
+        for name, tree in trees():
+            imports = [node for node in tree.body if isinstance(node, ast.ImportFrom)]
+            names = at_the_top(tree) + [one.name for node in imports for one in node.names]
+            self.assertEqual(sorted(set(names)), sorted(names), name)
+            for node in ast.walk(tree):
+                if isinstance(node, ast.FunctionDef):
+                    inner = [one.arg for one in node.args.args]
+                    stored = [one for one in ast.walk(node) if isinstance(one, ast.Name) and isinstance(one.ctx, ast.Store)]
+                    inner += [one.id for one in stored]
+                    self.assertEqual([one for one in inner if one in names], [], (name, node.name))
+
+    def test_is_stands_beside_none_true_and_false_alone(self):
+        for name, node in nodes():
+            if isinstance(node, ast.Compare) and any(isinstance(one, (ast.Is, ast.IsNot)) for one in node.ops):
+                self.assertEqual(len(node.ops), 1, (name, node.lineno))
+                self.assertIsInstance(node.comparators[0], ast.Constant, (name, node.lineno))
+                self.assertNotIsInstance(node.comparators[0].value, str, (name, node.lineno))
+
+    def test_what_is_walked_at_once_is_not_kept(self):
+        for name, node in nodes():
+            if isinstance(node, (ast.Assign, ast.Return)) and isinstance(node.value, ast.Call):
+                called = node.value.func
+                if isinstance(called, ast.Name):
+                    self.assertNotIn(called.id, ("zip", "enumerate", "reversed", "range", "set"), (name, node.lineno))
+                else:
+                    self.assertNotIn(called.attr, ("items", "keys", "values"), (name, node.lineno))
 
     def test_names(self):
         for name, tree in trees():

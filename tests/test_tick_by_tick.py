@@ -3,104 +3,37 @@
 import random
 import unittest
 
-from asking import bar, drop, joined, note, part, player, taken_apart
+from asking import (bar, drop, joined, move, note, pages, parallels, part, player, read, sounds, taken_apart)
 from partscores.desk import answers
+from slow import SlowScore
 
-
-class SlowScore:
-    def __init__(self):
-        self.ticks = []
-        self.bars = 0
-        self.players = []
-
-    def begin(self):
-        self.__init__()
-        return [0]
-
-    def bar(self, length):
-        if not 1 <= length <= 64:
-            return [-22]
-        if self.bars == 64:
-            return [-28]
-        self.ticks += [self.bars] * length
-        self.bars += 1
-        return [self.bars - 1]
-
-    def player(self, shift, low, top):
-        if shift not in range(-24, 25) or low > top or top > 127:
-            return [-22]
-        if len(self.players) == 16:
-            return [-28]
-        self.players.append((shift, low, top, {}))
-        return [len(self.players) - 1]
-
-    def note(self, i, start, length, high):
-        if i >= len(self.players):
-            return [-2]
-        low, top, notes = self.players[i][1:]
-        if length == 0 or start + length > len(self.ticks):
-            return [-22]
-        if high not in range(low, top + 1):
-            return [-34]
-        if any(self.begun(i, t) is not None for t in range(start, start + length)):
-            return [-17]
-        if len(notes) == 256:
-            return [-28]
-        notes[start] = (length, high)
-        return [len(notes)]
-
-    def drop(self, i, start):
-        if i >= len(self.players) or start not in self.players[i][3]:
-            return [-2]
-        del self.players[i][3][start]
-        return [len(self.players[i][3])]
-
-    def begun(self, i, tick):
-        """When the note began that sounds at the tick, or None."""
-        for start, (length, _) in self.players[i][3].items():
-            if start <= tick < start + length:
-                return start
-        return None
-
-    def part(self, i):
-        if i >= len(self.players):
-            return [-2]
-        row = []
-        empty = 0
-        for number in range(self.bars):
-            heads = self.heads(i, [t for t, b in enumerate(self.ticks) if b == number])
-            if [head for head, _ in heads] == [254]:
-                empty += 1
-                continue
-            row += [255, empty] if empty else []
-            empty = 0
-            row += joined(heads)
-        return [0] + row + ([255, empty] if empty else [])
-
-    def heads(self, i, ticks):
-        heads = []
-        before = "nothing"
-        for tick in ticks:
-            begun = self.begun(i, tick)
-            if begun == before:
-                heads[-1][1] += 1
-                continue
-            before = begun
-            if begun is None:
-                heads.append([254, 1])
-            elif begun < ticks[0]:
-                heads.append([253, 1])
-            else:
-                heads.append([self.players[i][3][begun][1] + self.players[i][0] + 24, 1])
-        return heads
+KINDS = """
+bar bar player note note note note note note drop part read read pages pages sounds sounds move parallels parallels
+""".split()
 
 
 def some_number(chance, most):
     return chance.choice([chance.randint(0, most)] * 9 + [0, most, 4294967295])
 
 
-def some_call(chance):
-    kind = chance.choice("bar bar player note note note note note drop part".split())
+def some_row(chance, slow):
+    """The part of some player, or nearly."""
+    row = slow.part(chance.randint(0, len(slow.players) - 1))[1:] if slow.players else [255, slow.bars]
+    if chance.random() < 0.5 or not row:
+        return row
+    k = chance.randrange(len(row))
+    changed = chance.choice([chance.choice([0, 1, 2, 24, 60, 253, 254, 255]), row[k] ^ 1])
+    return chance.choice([
+        row[:k] + [changed] + row[k + 1:],
+        row[:k] + row[k + 1:],
+        row[:k // 2 * 2] + row[k // 2 * 2 + 2:],
+        row[:k // 2 * 2] + row[k // 2 * 2:k // 2 * 2 + 2] + row[k // 2 * 2:],
+        row[:k // 2 * 2] + [changed, chance.randint(0, 4)] + row[k // 2 * 2:],
+    ])
+
+
+def some_call(chance, slow):
+    kind = chance.choice(KINDS)
     i = some_number(chance, 3)
     if kind == "bar":
         return bar(chance.choice([1, 2, 3, 4, 5, 0, 65]))
@@ -110,19 +43,58 @@ def some_call(chance):
         return note(i, some_number(chance, 30), some_number(chance, 9), some_number(chance, 70))
     if kind == "drop":
         return drop(i, some_number(chance, 20))
+    if kind == "read":
+        return read(i, some_row(chance, slow))
+    if kind == "pages":
+        return pages(i, some_number(chance, 12), some_number(chance, 6))
+    if kind == "sounds":
+        return sounds(some_number(chance, 40))
+    if kind == "move":
+        return move(chance.choice([chance.randint(-9, 9)] * 9 + [-2147483648, 2147483647]))
+    if kind == "parallels":
+        return parallels(i, some_number(chance, 3))
     return part(i)
 
 
 class TickByTick(unittest.TestCase):
+    def hold(self, seed, calls, want):
+        given = taken_apart(answers(joined(calls)))
+        for call, one, other in zip(calls, given, want):
+            self.assertEqual(one, other, (seed, call))
+        self.assertEqual(len(given), len(want), seed)
+
     def test_many_lists(self):
-        names = ("begin", "bar", "player", "note", "drop", "part")
         for seed in range(300):
             chance = random.Random(seed)
-            calls = [[0], bar(4), bar(3), player(2, 0, 127)] + [some_call(chance) for _ in range(60)]
-            calls += [[0]] * chance.randint(0, 1) + [some_call(chance) for _ in range(20)] + [part(0), part(1)]
             slow = SlowScore()
-            want = [getattr(slow, names[call[0]])(*call[1:]) for call in calls]
-            self.assertEqual(taken_apart(answers(joined(calls))), want, seed)
+            calls = [[0], bar(4), bar(3), player(2, 0, 127)]
+            want = [slow.asked(call) for call in calls]
+            for k in range(80):
+                calls.append([0] if k == 60 and chance.random() < 0.5 else some_call(chance, slow))
+                want.append(slow.asked(calls[-1]))
+            calls += [part(0), part(1)]
+            want += [slow.part(0), slow.part(1)]
+            self.hold(seed, calls, want)
+
+    def test_many_parallels(self):
+        some = 0
+        for seed in range(300):
+            chance = random.Random(seed)
+            slow = SlowScore()
+            calls = [[0], bar(5), bar(6), player(0, 0, 127), player(7, 0, 127), player(-1, 0, 127)]
+            for i in range(3):
+                highs = (60, 67, 72) if chance.random() < 0.7 else (48, 53, 55, 60, 62, 67, 74, 79)
+                start = 0
+                while start < 11:
+                    length = chance.choice([1, 1, 1, 2, 3])
+                    if chance.random() < 0.85:
+                        calls.append(note(i, start, length, chance.choice(highs)))
+                    start += length
+            calls += [parallels(i, j) for i in range(4) for j in range(4)]
+            want = [slow.asked(call) for call in calls]
+            self.hold(seed, calls, want)
+            some += sum(answered[0] > 0 for answered in want[-16:])
+        self.assertGreater(some, 300)
 
 
 if __name__ == "__main__":
