@@ -364,7 +364,8 @@ def all_notes(ticks, highs):
 
 
 class EveryRow(unittest.TestCase):
-    """Of a small score every row of numbers there may be: parts alone are read, each as its own notes."""
+    """Of a small score every row of as many pairs as it has ticks, or fewer, with seven heads and every length up to one
+    beyond its end: parts alone are read, each as its own notes."""
 
     def every_part(self, bars, reader, highs):
         parts = {}
